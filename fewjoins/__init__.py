@@ -1,0 +1,1 @@
+"""Fewjoins: odd sums of givens by fewest joinings."""
