@@ -1,5 +1,7 @@
 """Rows and settings: sets of givens, kept as whole numbers."""
 
+MOST_GIVENS = 12
+
 
 def weight(row):
     """Tells how many givens are in a row."""
