@@ -46,6 +46,11 @@ def own_rows(many):
     return [1 << given for given in range(many)]
 
 
+def joining(one, other):
+    """Tells the joining of two things, whichever has the lesser number."""
+    return (min(one, other), max(one, other))
+
+
 def all_words(net, words):
     """Tells the words of all things of a net, handed those of its givens."""
     many, joins, outs = net

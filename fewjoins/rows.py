@@ -29,3 +29,8 @@ def joined(one, other):
 def tells(row, setting):
     """Tells 1 where an odd number of a row's givens are yes at a setting, else 0."""
     return weight(row & setting) & 1
+
+
+def crossed(many, rows):
+    """Tells for each of so many givens the places of the rows that have it, kept as givens are in a row."""
+    return [row_of([place for place, row in enumerate(rows) if row >> given & 1]) for given in range(many)]

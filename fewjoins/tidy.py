@@ -1,6 +1,6 @@
 """Tidied nets: no row twice, and nothing on which no out leans."""
 
-from fewjoins.nets import rows_of
+from fewjoins.nets import joining, rows_of
 
 
 def tidied(net):
@@ -15,7 +15,7 @@ def tidied(net):
         # it keep their places in the list; nothing asks for it.
         numbers.append(many + len(kept))
         if many + at in leant:
-            kept.append(tuple(sorted([numbers[stands[a]], numbers[stands[b]]])))
+            kept.append(joining(numbers[stands[a]], numbers[stands[b]]))
     return (many, tuple(kept), tuple([numbers[stands[out]] for out in outs]))
 
 

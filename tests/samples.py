@@ -40,6 +40,26 @@ def some_rows(numbers, many, length):
     return [numbers.below(2 ** many) for place in range(length)]
 
 
+def some_wish(numbers, many, length):
+    """A wish of so many givens and rows, alike ones among them perhaps."""
+    return (many, tuple(1 + numbers.below(2 ** many - 1) for place in range(length)))
+
+
+def some_wishes(start, count):
+    """So many wishes of all sizes, with least and most givens and rows among them."""
+    numbers = Numbers(start)
+    wishes = [some_wish(numbers, many, length) for many in (1, 2, 12) for length in (1, 2, 12, 24)]
+    for turn in range(count):
+        wishes.append(some_wish(numbers, 1 + numbers.below(6), 1 + numbers.below(8)))
+    return wishes
+
+
+def long_net(many, joins, outs):
+    """A net of two givens or more with just so many joinings, all its outs the last thing."""
+    made = tuple((0, many - 1 + step) for step in range(joins))
+    return (many, made, (many + joins - 1,) * outs)
+
+
 def nested(inner, depth, kind):
     """A thing within so many tuples or lists."""
     thing = inner
