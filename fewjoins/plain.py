@@ -17,7 +17,7 @@ def plain_net(wish):
 def refuse_joins(count):
     """Refuses more joinings than a net may have."""
     if count > MOST_JOINS:
-        raise TooMany(f"the net would have {count} joinings")
+        raise TooMany(f"the net would have more than {MOST_JOINS} joinings")
 
 
 def chained(many, joins, things):

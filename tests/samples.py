@@ -54,6 +54,16 @@ def some_wishes(start, count):
     return wishes
 
 
+def wish_of_small_rows(count):
+    """A wish of twelve givens and of so many unlike rows, first those of two givens, then of three.
+
+    By common pairs and by likeness each row is a joining. Wishes of at most 24 rows come to far fewer
+    joinings than 132 in these ways, so that only one of more rows can show where they are refused.
+    """
+    rows = [row for size in (2, 3) for row in range(4096) if bin(row).count("1") == size]
+    return (12, tuple(rows[:count]))
+
+
 def long_net(many, joins, outs):
     """A net of two givens or more with just so many joinings, all its outs the last thing."""
     made = tuple((0, many - 1 + step) for step in range(joins))
