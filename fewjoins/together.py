@@ -42,7 +42,8 @@ def laned(net, lanes):
 def refuse_too_many(many, joins, outs):
     """Refuses what would have more givens, joinings or outs than a net may have."""
     if many > MOST_GIVENS or joins > MOST_JOINS or outs > MOST_OUTS:
-        raise TooMany(f"no net has {many} givens, {joins} joinings and {outs} outs")
+        # Its words leave out how many: a number of very many figures can't be written out.
+        raise TooMany("there would be more givens, joinings or outs than a net may have")
 
 
 def refuse_nought(rows, added):

@@ -234,7 +234,7 @@ class Laned(unittest.TestCase):
             self.assertEqual(refusal(laned, net, most + 1), (TooMany, None))
 
     def test_ever_so_many_lanes(self):
-        for lanes in (13, 10 ** 9, 10 ** 60 - 1):
+        for lanes in (13, 10 ** 9, 10 ** 60 - 1, 10 ** 9999):
             self.assertEqual(refusal(laned, ONE, lanes), (TooMany, None))
 
     def test_asked_again_the_same_is_told(self):
