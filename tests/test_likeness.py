@@ -54,8 +54,8 @@ class LikenessNet(unittest.TestCase):
         self.assertEqual(likeness_net((4, (15, 7))), (4, ((0, 1), (2, 4), (3, 5)), (6, 5)))
         self.assertEqual(likeness_net((5, (31, 24))), (5, ((3, 4), (0, 5), (1, 6), (2, 7)), (8, 5)))
 
-    def test_a_cost_from_a_made_row_comes_ahead_of_a_greater_one_from_nothing(self):
-        # Row 31 is made from 15 at a cost of 1, ahead of 96 with 128, from nothing at a cost of 1: it stands first.
+    def test_the_row_that_stands_first_waits_for_lesser_costs(self):
+        # Row 192 costs 1 and row 15 then 3; row 31 costs 4, and 1 as soon as row 15 is made.
         told = likeness_net((8, (31, 192, 15)))
         self.assertEqual(told, (8, ((6, 7), (0, 1), (2, 9), (3, 10), (4, 11)), (12, 8, 11)))
 
