@@ -19,7 +19,7 @@ OWN_METHODS = set(
     "append clear copy count endswith extend find get index insert isalnum isalpha isdigit islower isspace"
     " isupper items join keys ljust lower lstrip partition pop remove replace reverse rfind rjust rpartition"
     " rsplit rstrip setdefault split splitlines startswith strip update upper values zfill bit_length"
-    " sort add discard __init__".split())
+    " sort add discard isascii __init__".split())
 
 BUILT_IN = set(vars(builtins))
 
